@@ -1,0 +1,43 @@
+"""The calls on one object, handed in and answered as a list of whole numbers."""
+
+from firesaved.session import NUMBER_CALLS, PLAIN_CALLS, Session
+
+NOT_BEGUN = -11
+
+BEGIN = 0
+
+# All the document's calls are read, also those not built yet: before a begin they are refused alike.
+WITH_NUMBER = (1, 3, 4, 5, 14, 15, 16)
+WITH_ROW = (13, 17)
+
+
+def end_of_call(calls, at):
+    """Where the call that begins at this index has ended."""
+    if calls[at] in WITH_NUMBER:
+        return at + 2
+    if calls[at] in WITH_ROW:
+        return at + 2 + calls[at + 1]
+    return at + 1
+
+
+def answer_of(session, call, given):
+    """What one call answers, made with the numbers given behind its own."""
+    if call != BEGIN and len(session.joined) == 0:
+        return [NOT_BEGUN]
+    if call in NUMBER_CALLS:
+        return NUMBER_CALLS[call](session, given[0])
+    return PLAIN_CALLS[call](session)
+
+
+def answers(calls):
+    """What the calls answer, made in order on a new object: for each how many numbers, then these."""
+    session = Session()
+    told = []
+    at = 0
+    while at < len(calls):
+        behind = end_of_call(calls, at)
+        answer = answer_of(session, calls[at], calls[at + 1:behind])
+        told.append(len(answer))
+        told.extend(answer)
+        at = behind
+    return told
