@@ -168,6 +168,11 @@ def safe(session):
     return counted([p for p in range(len(session.joined)) if p not in burning])
 
 
+def state(session):
+    """How many places, where the fire begins, how many a turn, in this one; then the joins."""
+    return [len(session.joined), session.origin, session.each, session.used] + session.joined[1:]
+
+
 # By the calls' numbers: those that are made with nothing, and those made with one number.
-PLAIN_CALLS = {0: begin, 2: drop, 6: turn, 7: again, 8: burns, 9: saved, 10: safe}
+PLAIN_CALLS = {0: begin, 2: drop, 6: turn, 7: again, 8: burns, 9: saved, 10: safe, 21: state}
 NUMBER_CALLS = {1: join, 3: fire, 4: each, 5: save}

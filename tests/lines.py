@@ -10,6 +10,11 @@ NUMBERS = {
 LARGEST = 4294967295
 
 
+def named(call):
+    """The name of a call."""
+    return call[0] if isinstance(call, tuple) else call
+
+
 def coded(line):
     """The line as it is handed in: a call is its name, or its name with its number or row."""
     calls = []
@@ -56,5 +61,16 @@ STAR_OF_FIVE = [0, 0, 0, 0]
 # 0 is joined with 1 and 2; 1 with 3 and 4; 2 with 5; 5 with 6.
 BRANCHED = [0, 0, 1, 1, 2, 5]
 
+# The greatest part keeps fewer here: 1, 3, 4 and 5 lie in a row, 2 has 6 and 7 behind it.
+MISLED = [0, 0, 1, 3, 4, 2, 2]
+
 # All of the fire that can be asked, for telling whether anything changed.
 LOOKS = ["burns", "saved", "safe"]
+ALL_LOOKS = LOOKS + ["state"]
+
+# A call of each that asks only: answered, and refused where it can be.
+QUESTIONS = ["best", "greedy", "worst", "from", "mores", "state", "burns", "saved", "safe",
+             ("run", []), ("run", [0]), ("run", [1]), ("run", [4, 5]), ("run", [12]), ("run", [1] * 14),
+             ("kept", []), ("kept", [0, 1, 1]), ("kept", [12]), ("kept", [0] * 13),
+             ("size", 0), ("size", 2), ("size", 12), ("deep", 0), ("deep", 2), ("deep", LARGEST),
+             ("level", 0), ("level", 1), ("level", LARGEST)]

@@ -26,6 +26,24 @@ TOLD_BY_CALL = [
     ([3, 1], [1, 0]),
     ([4, 2], [1, 1]),
     ([5, 9], [1, -2]),
+    ([11], [2, 1, 0]),
+    ([12], [2, 1, 0]),
+    ([13, 1, 0], [2, 1, 1]),
+    ([13, 0], [2, 0, 2]),
+    ([13, 2, 0, 2], [1, -22]),
+    ([13, 1, 1], [1, -33]),
+    ([14, 0], [1, 1]),
+    ([15, 0], [1, 1]),
+    ([15, 2], [1, -2]),
+    ([16, 1], [2, 1, 0]),
+    ([16, 2], [1, 0]),
+    ([17, 3, 0, 1, 0], [1, 2]),
+    ([17, 0], [1, 0]),
+    ([17, 14] + [0] * 14, [1, -22]),
+    ([18], [3, 1, 0, 1]),
+    ([19], [3, 2, 1, 1]),
+    ([20], [3, 2, 1, 1]),
+    ([21], [5, 2, 1, 2, 0, 0]),
 ]
 CALLS = [number for call, told in TOLD_BY_CALL for number in call]
 TOLD = [number for call, told in TOLD_BY_CALL for number in told]
@@ -89,6 +107,14 @@ class Interface(unittest.TestCase):
 
     def test_four_hundred_calls(self):
         self.assertEqual(answers([0] + [6] * (FULL_LINE - 1)), [1, 0] + [2, 0, 1] * (FULL_LINE - 1))
+
+    def test_the_longest_line(self):
+        calls = [0, 1, 0] + [13, 14] + [1] * 14 + ([17, 12] + [1] * 12 + [17, 14] + [0] * 14) * 198 + [13, 1, 1]
+        self.assertEqual(answers(calls), [1, 0, 1, 1, 1, -22] + [1, 1, 1, -22] * 198 + [2, 1, 1])
+
+    def test_what_stands_in_a_row_is_no_call(self):
+        self.assertEqual(answers([0, 13, 3, 0, 6, 8, 17, 2, 0, 0, 16, 13, 21]),
+                         [1, 0, 1, -22, 1, 1, 1, 0, 4, 1, 0, 1, 0])
 
     def test_nothing_is_printed(self):
         out, err = io.StringIO(), io.StringIO()
